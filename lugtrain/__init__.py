@@ -1,0 +1,1 @@
+"""Lugtrain: wheels dragged with play, and what a row of turnings leaves."""

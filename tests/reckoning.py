@@ -1,0 +1,96 @@
+"""What the tests share: rows and stands to ask with, and plain reckonings by the document's words."""
+
+import itertools
+
+SIXTY = 10 ** 60 - 1
+
+
+def all_rows(places, most):
+    """Every row of these places, of none up to most of them."""
+    for many in range(most + 1):
+        for row in itertools.product(places, repeat=many):
+            yield list(row)
+
+
+def all_wheels(plays, handle):
+    """Every list of wheels that keeps the plays with the handle there."""
+    if not plays:
+        yield []
+        return
+    for at in range(handle - plays[0], handle + plays[0] + 1):
+        for behind in all_wheels(plays[1:], at):
+            yield [at] + behind
+
+
+def mixed(seed, many, low, high):
+    """A list of many places from low to high, in a disorder that is the same each time."""
+    state = seed
+    places = []
+    for step in range(many):
+        state = (state * 6364136223846793005 + 1442695040888963407) & (2 ** 64 - 1)
+        places.append(low + (state >> 20) % (high - low + 1))
+    return places
+
+
+def shrinking(many, start=0):
+    """A row that goes to and fro, each time less far, so that all of it stands."""
+    return [start + (many - step) * (1 if step % 2 else -1) for step in range(many)]
+
+
+def growing(many):
+    """A row that goes to and fro, each time farther, so that just its two last places stand."""
+    return shrinking(many)[::-1]
+
+
+def plain_turning(row):
+    """The turning places, each time of the row asked by itself."""
+    told = []
+    for when, here in enumerate(row):
+        if when > 0 and row[when - 1] == here:
+            continue
+        ahead = [place for place in row[:when] if place != here][-1:]
+        behind = [place for place in row[when:] if place != here][:1]
+        if when == 0:
+            told.append(here)
+        elif set(row[when:]) == {here}:
+            told.append(here)
+        elif ahead < [here] > behind or ahead > [here] < behind:
+            told.append(here)
+    return told
+
+
+def last_time(row, place):
+    """When the row is at the place for the last time."""
+    return max(when for when in range(len(row)) if row[when] == place)
+
+
+def plain_standing(row):
+    """The standing places, by sorting and by walking the row for each."""
+    if len(set(row)) < 2:
+        return row[:1]
+    ends = [sorted(row)[0], sorted(row)[-1]]
+    told = sorted(ends, key=lambda place: last_time(row, place))
+    while last_time(row, told[-1]) != len(row) - 1:
+        behind = row[last_time(row, told[-1]) + 1:]
+        told_a_greatest = told[-1] > told[-2]
+        told.append(sorted(behind)[0 if told_a_greatest else -1])
+    return told
+
+
+def refusal_of(asked, *things):
+    """The class of the error with which it is refused, None where it is not."""
+    try:
+        asked(*things)
+    except ValueError as error:
+        return error.__class__
+    return None
+
+
+def is_whole(thing):
+    """Whether it is a whole number, and no truth."""
+    return isinstance(thing, int) and not isinstance(thing, bool)
+
+
+def is_places(thing):
+    """Whether it is a list, and of whole numbers alone."""
+    return thing.__class__ is list and all(is_whole(place) for place in thing)

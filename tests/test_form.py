@@ -1,0 +1,110 @@
+"""The form of the package's files: the part of Python that it keeps to, as far as a plain look can tell."""
+
+import ast
+import builtins
+import pathlib
+import re
+import unittest
+
+PACKAGE = pathlib.Path(__file__).resolve().parent.parent / "lugtrain"
+FILES = sorted(PACKAGE.rglob("*.py"))
+
+OWN_NAMES = """
+len range enumerate zip min max sum abs sorted reversed int str bool bytes list tuple dict set frozenset isinstance
+ord repr any all divmod Exception ValueError TypeError KeyError IndexError LookupError ZeroDivisionError
+ArithmeticError OverflowError RuntimeError NotImplementedError AttributeError StopIteration True False None
+""".split()
+
+WORDS_OUT = """
+type typing typing_extensions enum Enum IntEnum StrEnum Flag IntFlag Generic Protocol ABC ABCMeta namedtuple
+NamedTuple TypedDict TYPE_CHECKING abstractmethod
+""".split()
+
+NODES_OUT = (
+    ast.With, ast.Match, ast.Global, ast.Nonlocal, ast.Yield, ast.YieldFrom, ast.AsyncFunctionDef, ast.Await,
+    ast.GeneratorExp, ast.NamedExpr, ast.Div, ast.MatMult, ast.Import,
+)
+
+DUNDERS = ["__init__", "__eq__", "__repr__", "__str__", "__len__", "__all__", "__version__"]
+
+
+def tree_of(file):
+    return ast.parse(file.read_text(encoding="utf-8"))
+
+
+def nodes_of(kind):
+    return [(file.name, node) for file in FILES for node in ast.walk(tree_of(file)) if isinstance(node, kind)]
+
+
+class Form(unittest.TestCase):
+    def test_the_folder_holds_python_files_alone(self):
+        for thing in PACKAGE.rglob("*"):
+            if "__pycache__" not in thing.parts:
+                self.assertTrue(thing.is_dir() or thing.suffix == ".py", thing)
+        self.assertIn(PACKAGE / "__init__.py", FILES)
+
+    def test_signs_and_sizes(self):
+        for file in FILES:
+            text = file.read_bytes().decode("ascii")
+            self.assertIsNone(re.search(r"[^\n -~]", text), file)
+            rows = text.split("\n")
+            self.assertLessEqual(len(rows), 400, file)
+            self.assertLessEqual(max(len(row) for row in rows), 120, file)
+        for name, node in nodes_of(ast.FunctionDef):
+            self.assertLessEqual(node.end_lineno - node.lineno + 1, 40, (name, node.name))
+
+    def test_words_that_stand_nowhere(self):
+        for file in FILES:
+            text = file.read_text(encoding="ascii")
+            for word in WORDS_OUT:
+                self.assertIsNone(re.search(rf"\b{word}\b", text), (file, word))
+            for piece in ("dataclass", "overload", "contextmanager"):
+                self.assertNotIn(piece, text, file)
+
+    def test_what_is_left_out_of_the_language(self):
+        for name, node in nodes_of(NODES_OUT):
+            self.fail((name, node.lineno, node.__class__.__name__))
+        for name, node in nodes_of((ast.For, ast.While)):
+            self.assertEqual(node.orelse, [], (name, node.lineno))
+        for name, node in nodes_of((ast.FunctionDef, ast.ClassDef)):
+            self.assertEqual(node.decorator_list, [], (name, node.name))
+        for name, node in nodes_of(ast.Constant):
+            self.assertNotIsInstance(node.value, (float, complex), (name, node.lineno))
+            self.assertFalse(isinstance(node.value, str) and chr(37) in node.value, (name, node.lineno))
+
+    def test_imports_are_the_packages_own(self):
+        for name, node in nodes_of(ast.ImportFrom):
+            self.assertEqual(node.level, 0, name)
+            self.assertTrue(node.module.startswith("lugtrain."), (name, node.module))
+
+    def test_names(self):
+        own = dir(builtins)
+        for name, node in nodes_of(ast.Name):
+            self.assertTrue(node.id in OWN_NAMES or node.id not in own, (name, node.id))
+            if isinstance(node.ctx, ast.Store):
+                self.assertNotIn(node.id, own, name)
+            self.assertFalse(node.id.startswith("_") and node.id not in DUNDERS, (name, node.id))
+        for name, node in nodes_of(ast.arg):
+            self.assertFalse(node.arg.startswith("_") or node.arg in own, (name, node.arg))
+        for name, node in nodes_of((ast.FunctionDef, ast.ClassDef)):
+            self.assertFalse(node.name.startswith("_") and node.name not in DUNDERS, (name, node.name))
+        for name, node in nodes_of(ast.Attribute):
+            self.assertFalse(node.attr.startswith("_") and node.attr not in DUNDERS, (name, node.attr))
+
+    def test_each_name_of_a_top_is_given_once(self):
+        for file in FILES:
+            given = []
+            for at, node in enumerate(tree_of(file).body):
+                if isinstance(node, ast.ImportFrom):
+                    given += [drawn.asname or drawn.name for drawn in node.names]
+                elif isinstance(node, (ast.FunctionDef, ast.ClassDef)):
+                    given.append(node.name)
+                elif isinstance(node, ast.Assign):
+                    given += [target.id for target in node.targets]
+                else:
+                    self.assertTrue(at == 0 and isinstance(node, ast.Expr), (file, node.lineno))
+            self.assertEqual(len(given), len(set(given)), file)
+
+
+if __name__ == "__main__":
+    unittest.main()
