@@ -27,8 +27,12 @@ def mixed(seed, many, low, high):
     state = seed
     places = []
     for step in range(many):
-        state = (state * 6364136223846793005 + 1442695040888963407) & (2 ** 64 - 1)
-        places.append(low + (state >> 20) % (high - low + 1))
+        drawn = 0
+        # Six times forty bits, so that numbers of sixty figures lie all over the width.
+        for piece in range(6):
+            state = (state * 6364136223846793005 + 1442695040888963407) & (2 ** 64 - 1)
+            drawn = drawn << 40 | state >> 24
+        places.append(low + drawn % (high - low + 1))
     return places
 
 
@@ -40,6 +44,25 @@ def shrinking(many, start=0):
 def growing(many):
     """A row that goes to and fro, each time farther, so that just its two last places stand."""
     return shrinking(many)[::-1]
+
+
+LONG_ROWS = [
+    mixed(1, 2000, -1000, 1000),
+    mixed(2, 2000, -3, 3),
+    mixed(3, 2000, 0, 1),
+    mixed(4, 1999, -SIXTY, SIXTY),
+    list(range(2000)),
+    list(range(2000, 0, -1)),
+    shrinking(2000),
+    shrinking(1999),
+    growing(2000),
+    growing(1999),
+    [7] * 2000,
+    [1, 2] * 1000,
+    [2, 2, 1, 1] * 500,
+    shrinking(1000) + growing(1000),
+    growing(1000) + shrinking(1000),
+]
 
 
 def plain_turning(row):
@@ -75,6 +98,43 @@ def plain_standing(row):
         told_a_greatest = told[-1] > told[-2]
         told.append(sorted(behind)[0 if told_a_greatest else -1])
     return told
+
+
+def plain_depths(plays):
+    """Of each wheel's number its depth, of -1 the handle's, which is 0."""
+    return {number: sum(plays[:number + 1]) for number in range(-1, len(plays))}
+
+
+def plain_pieces(handle, wheels):
+    """Of each wheel's number its place, of -1 the handle's."""
+    return {-1: handle, **dict(enumerate(wheels))}
+
+
+def plain_way(places):
+    """How far it is in all from each place to the next one."""
+    return sum(max(places[at], places[at - 1]) - min(places[at], places[at - 1]) for at in range(1, len(places)))
+
+
+def plain_follows(plays, end, goal, ahead, must):
+    """Whether the must can be the next one behind the must ahead, by the words of the document."""
+    depths, goals = plain_depths(plays), plain_pieces(end, goal)
+    place = goals[ahead[0]] + depths[ahead[0]] * ahead[1]
+    if ahead[1] == 1:
+        return must[1] == -1 and place - depths[must[0]] > goals[must[0]]
+    return must[1] == 1 and place + depths[must[0]] < goals[must[0]]
+
+
+def a_stand(seed, plays, low, high):
+    """A handle within low and high and wheels that keep the plays, in disorder."""
+    handle = mixed(seed, 1, low, high)[0]
+    wheels = []
+    ahead = handle
+    for number, play in enumerate(plays):
+        # At the ends of its play just as often as anywhere.
+        free = mixed(seed * 31 + number, 2, -play, play)
+        ahead += [free[1], play, -play, free[1]][free[0] % 4]
+        wheels.append(ahead)
+    return handle, wheels
 
 
 def refusal_of(asked, *things):

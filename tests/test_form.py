@@ -25,11 +25,32 @@ NODES_OUT = (
     ast.GeneratorExp, ast.NamedExpr, ast.Div, ast.MatMult, ast.Import,
 )
 
+METHODS_OF_PYTHONS_OWN = """
+append clear copy count endswith extend find get index insert isalnum isalpha isdigit islower isspace isupper items
+join keys ljust lower lstrip partition pop remove replace reverse rfind rjust rpartition rsplit rstrip setdefault
+split splitlines startswith strip update upper values zfill bit_length
+""".split()
+
 DUNDERS = ["__init__", "__eq__", "__repr__", "__str__", "__len__", "__all__", "__version__"]
 
 
 def tree_of(file):
     return ast.parse(file.read_text(encoding="utf-8"))
+
+
+def methods_of_classes():
+    return {
+        node.name for name, kind in nodes_of(ast.ClassDef) for node in kind.body if isinstance(node, ast.FunctionDef)
+    }
+
+
+def values_of_objects():
+    return {node.attr for name, node in nodes_of(ast.Attribute) if isinstance(node.ctx, ast.Store)}
+
+
+def drawn_from(file):
+    """The package's modules that the file draws from, by their plain names."""
+    return [node.module.split(".")[1] for node in tree_of(file).body if isinstance(node, ast.ImportFrom)]
 
 
 def nodes_of(kind):
@@ -104,6 +125,40 @@ class Form(unittest.TestCase):
                 else:
                     self.assertTrue(at == 0 and isinstance(node, ast.Expr), (file, node.lineno))
             self.assertEqual(len(given), len(set(given)), file)
+
+    def test_names_are_drawn_from_the_file_that_defines_them(self):
+        for name, node in nodes_of(ast.ImportFrom):
+            top = tree_of(PACKAGE / (node.module.split(".")[1] + ".py")).body
+            defined = [thing.name for thing in top if isinstance(thing, (ast.FunctionDef, ast.ClassDef))]
+            defined += [thing.targets[0].id for thing in top if isinstance(thing, ast.Assign)]
+            for drawn in node.names:
+                self.assertIn(drawn.name, defined, (name, node.module))
+
+    def test_no_two_files_draw_from_one_another(self):
+        waiting = {file.stem: drawn_from(file) for file in FILES}
+        while waiting:
+            free = [stem for stem in waiting if not set(waiting[stem]) & set(waiting)]
+            self.assertNotEqual(free, [], waiting)
+            waiting = {stem: waiting[stem] for stem in waiting if stem not in free}
+
+    def test_methods_and_values_of_objects(self):
+        methods, values = methods_of_classes(), values_of_objects()
+        self.assertEqual(methods & values, set())
+        own = {name for kind in (str, int, list, dict, set, bytes) for name in dir(kind)} - set(DUNDERS)
+        self.assertEqual(values & own, set())
+        self.assertEqual((methods & own) - set(METHODS_OF_PYTHONS_OWN), set())
+        for name, node in nodes_of(ast.Attribute):
+            self.assertIn(node.attr, methods | values | set(METHODS_OF_PYTHONS_OWN), (name, node.lineno))
+        for name, node in nodes_of(ast.ClassDef):
+            for thing in node.body:
+                fits = isinstance(thing, ast.FunctionDef) or thing is node.body[0] and isinstance(thing, ast.Expr)
+                self.assertTrue(fits, (name, node.name, thing.lineno))
+
+    def test_is_stands_beside_none_true_and_false_alone(self):
+        for name, node in nodes_of(ast.Compare):
+            for sign, right in zip(node.ops, node.comparators):
+                if isinstance(sign, (ast.Is, ast.IsNot)):
+                    self.assertTrue(isinstance(right, ast.Constant) and right.value in (None, True, False), name)
 
 
 if __name__ == "__main__":

@@ -5,26 +5,8 @@ import unittest
 from lugtrain.returns import standing_of, turning_of
 from lugtrain.trains import run_of
 from reckoning import (
-    SIXTY, all_rows, all_wheels, growing, is_places, mixed, plain_standing, plain_turning, shrinking,
+    LONG_ROWS, SIXTY, all_rows, all_wheels, growing, is_places, plain_standing, plain_turning, shrinking,
 )
-
-LONG_ROWS = [
-    mixed(1, 2000, -1000, 1000),
-    mixed(2, 2000, -3, 3),
-    mixed(3, 2000, 0, 1),
-    mixed(4, 1999, -SIXTY, SIXTY),
-    list(range(2000)),
-    list(range(2000, 0, -1)),
-    shrinking(2000),
-    shrinking(1999),
-    growing(2000),
-    growing(1999),
-    [7] * 2000,
-    [1, 2] * 1000,
-    [2, 2, 1, 1] * 500,
-    shrinking(1000) + growing(1000),
-    growing(1000) + shrinking(1000),
-]
 
 
 class Turning(unittest.TestCase):
