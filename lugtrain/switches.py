@@ -5,6 +5,18 @@ from lugtrain.errors import NoBox, NoPlace, NoSwitch
 MOST_TOP = 16
 
 
+def refuse_no_top(top):
+    """Raise NoBox where no box has this top."""
+    if not 1 <= top <= MOST_TOP:
+        raise NoBox("a top is a whole number from 1 to 16")
+
+
+def refuse_no_place(top, place):
+    """Raise NoPlace where the place is none of a box of this top."""
+    if not 0 <= place <= top:
+        raise NoPlace("the handle goes over the places from 0 to the top")
+
+
 class Switch:
     """A switch that goes on at high, off at low, and stays as it is between."""
 
@@ -38,8 +50,7 @@ class Box:
     """Switches over the places from 0 to top."""
 
     def __init__(self, top, switches):
-        if not 1 <= top <= MOST_TOP:
-            raise NoBox("a top is a whole number from 1 to 16")
+        refuse_no_top(top)
         self.top = top
         self.switches = [switch_within(top, low, high) for low, high, weight in switches]
         self.weights = [weight for low, high, weight in switches]
@@ -47,8 +58,7 @@ class Box:
 
     def turn(self, place):
         """The answer once the handle has gone to the place."""
-        if not 0 <= place <= self.top:
-            raise NoPlace("the handle goes over the places from 0 to the top")
+        refuse_no_place(self.top, place)
         self.at = place
         for switch in self.switches:
             switch.turn(place)

@@ -3,6 +3,13 @@
 import itertools
 
 SIXTY = 10 ** 60 - 1
+NO_TOPS = (-SIXTY, -16, -1, 0, 17, 18, SIXTY)
+NO_TRAINS = ([], [-1], [3, -1], [-1, 3], [0] * 13, [-SIXTY], [5] * 12 + [-1])
+# Handles and wheels that are no stand of the plays [3, 2].
+NO_STANDS = (
+    (0, []), (0, [0]), (0, [0, 0, 0]), (0, [4, 4]), (0, [-4, -4]), (0, [0, 3]), (0, [0, -3]), (9, [0, 0]),
+    (SIXTY, [0, 0]), (0, [3, -SIXTY]),
+)
 
 
 def all_rows(places, most):
@@ -137,6 +144,53 @@ def a_stand(seed, plays, low, high):
     return handle, wheels
 
 
+def plain_grabbed(plays, handle, wheels, piece, place):
+    """The handle and the wheels once the piece lies at the place, by the words of the document."""
+    pieces = plain_pieces(handle, wheels)
+    pieces[piece] = place
+    for number in range(piece + 1, len(plays)):
+        play, ahead = plays[number], pieces[number - 1]
+        pieces[number] = max(ahead - play, min(ahead + play, pieces[number]))
+    for number in range(piece - 1, -2, -1):
+        play, behind = plays[number + 1], pieces[number + 1]
+        pieces[number] = max(behind - play, min(behind + play, pieces[number]))
+    return pieces[-1], [pieces[number] for number in range(len(plays))]
+
+
+def plain_on(low, high, row):
+    """Whether a switch is on behind the row: by the last place that is at high or above, or at low or below."""
+    telling = [place for place in [0] + row if place <= low or place >= high]
+    return telling[-1] >= high
+
+
+def plain_lit(switches, row):
+    """The numbers of the switches that are on behind the row."""
+    return [number for number, (low, high, weight) in enumerate(switches) if plain_on(low, high, row)]
+
+
+def plain_answer(switches, row):
+    """The sum of the weights of these."""
+    return sum(switches[number][2] for number in plain_lit(switches, row))
+
+
+def pairs_of(top):
+    """Every low and high that a switch of a box of this top can have."""
+    return [(low, high) for high in range(1, top + 1) for low in range(high)]
+
+
+def weighed(pairs):
+    """Switches of these, the weights such that an answer tells just which are on."""
+    return [(low, high, 2 ** number) for number, (low, high) in enumerate(pairs)]
+
+
+def drawn_switches(seed, top, many, most):
+    """Many switches of a box of this top, the weights from -most to most, in disorder; some of one low and high."""
+    pairs = pairs_of(top)
+    numbers = mixed(seed, many, 0, len(pairs) - 1)
+    weights = mixed(seed + 1, many, -most, most)
+    return [(*pairs[number], weight) for number, weight in zip(numbers, weights)]
+
+
 def refusal_of(asked, *things):
     """The class of the error with which it is refused, None where it is not."""
     try:
@@ -154,3 +208,10 @@ def is_whole(thing):
 def is_places(thing):
     """Whether it is a list, and of whole numbers alone."""
     return thing.__class__ is list and all(is_whole(place) for place in thing)
+
+
+def is_switches(thing):
+    """Whether it is a list of tuples of three whole numbers."""
+    if thing.__class__ is not list:
+        return False
+    return all(one.__class__ is tuple and len(one) == 3 and is_places(list(one)) for one in thing)

@@ -5,33 +5,10 @@ import unittest
 from lugtrain.errors import NoBox, NoPlace, NoSwitch
 from lugtrain.returns import standing_of
 from lugtrain.switches import Box, Switch
-from reckoning import SIXTY, all_rows, is_places, is_whole, mixed, refusal_of
-
-NO_TOPS = (-SIXTY, -16, -1, 0, 17, 18, SIXTY)
-
-
-def plain_on(low, high, row):
-    """Whether a switch is on behind the row: by the last place that is at high or above, or at low or below."""
-    telling = [place for place in [0] + row if place <= low or place >= high]
-    return telling[-1] >= high
-
-
-def plain_lit(switches, row):
-    return [number for number, (low, high, weight) in enumerate(switches) if plain_on(low, high, row)]
-
-
-def plain_answer(switches, row):
-    return sum(switches[number][2] for number in plain_lit(switches, row))
-
-
-def pairs_of(top):
-    """Every low and high that a switch of a box of this top can have."""
-    return [(low, high) for high in range(1, top + 1) for low in range(high)]
-
-
-def weighed(pairs):
-    """Switches of these, the weights such that an answer tells just which are on."""
-    return [(low, high, 2 ** number) for number, (low, high) in enumerate(pairs)]
+from reckoning import (
+    NO_TOPS, SIXTY, all_rows, is_places, is_whole, mixed, pairs_of, plain_answer, plain_lit, plain_on, refusal_of,
+    weighed,
+)
 
 
 def gone(box, row):
