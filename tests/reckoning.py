@@ -3,6 +3,11 @@
 import itertools
 
 SIXTY = 10 ** 60 - 1
+FORTY = 10 ** 40 - 1
+# A number as it is written, for patterns.
+NUMBER = "(?:0|-?[1-9][0-9]{0,39})"
+# Signs by which a text can be spoilt: each figure, those that stand in texts, and some others.
+SIGNS = "0123456789- \n\t+.,:_aAtpxsye~!"
 NO_TOPS = (-SIXTY, -16, -1, 0, 17, 18, SIXTY)
 NO_TRAINS = ([], [-1], [3, -1], [-1, 3], [0] * 13, [-SIXTY], [5] * 12 + [-1])
 # Handles and wheels that are no stand of the plays [3, 2].
@@ -157,6 +162,23 @@ def plain_grabbed(plays, handle, wheels, piece, place):
     return pieces[-1], [pieces[number] for number in range(len(plays))]
 
 
+def steps_to_all(plays, handle, wheels, most):
+    """Of each stand the least number of steps, up or down by 1, by which it can be come to, up to most of them."""
+    first = (handle, tuple(wheels))
+    steps = {first: 0}
+    edge = [first]
+    for many in range(1, most + 1):
+        beyond = []
+        for at, places in edge:
+            for place in (at - 1, at + 1):
+                stand = (place, tuple(plain_grabbed(plays, at, list(places), -1, place)[1]))
+                if stand not in steps:
+                    steps[stand] = many
+                    beyond.append(stand)
+        edge = beyond
+    return steps
+
+
 def plain_on(low, high, row):
     """Whether a switch is on behind the row: by the last place that is at high or above, or at low or below."""
     telling = [place for place in [0] + row if place <= low or place >= high]
@@ -189,6 +211,20 @@ def drawn_switches(seed, top, many, most):
     numbers = mixed(seed, many, 0, len(pairs) - 1)
     weights = mixed(seed + 1, many, -most, most)
     return [(*pairs[number], weight) for number, weight in zip(numbers, weights)]
+
+
+def spoilt(text, signs):
+    """The text without one sign, with one sign more, with another one, with two neighbours swapped: each."""
+    for at in range(len(text) + 1):
+        for sign in signs:
+            yield text[:at] + sign + text[at:]
+    for at in range(len(text)):
+        yield text[:at] + text[at + 1:]
+        for sign in signs:
+            if sign != text[at]:
+                yield text[:at] + sign + text[at + 1:]
+    for at in range(len(text) - 1):
+        yield text[:at] + text[at + 1] + text[at] + text[at + 2:]
 
 
 def refusal_of(asked, *things):

@@ -10,7 +10,7 @@ from lugtrain.papers import is_paper, must_place, weight_of
 from lugtrain.trains import run_of
 from reckoning import (
     SIXTY, a_stand, all_wheels, is_places, is_whole, mixed, plain_depths, plain_follows, plain_pieces, plain_way,
-    refusal_of,
+    refusal_of, steps_to_all,
 )
 
 PLAYS = [3, 2]
@@ -35,23 +35,6 @@ def plain_paper(plays, handle, wheels, end, goal):
 
 def plain_row(plays, end, goal, paper):
     return [plain_pieces(end, goal)[wheel] + plain_depths(plays)[wheel] * side for wheel, side in paper]
-
-
-def steps_to_all(plays, handle, wheels, most):
-    """Of each stand the least number of steps, up or down by 1, by which it can be come to, up to most of them."""
-    first = (handle, tuple(wheels))
-    steps = {first: 0}
-    edge = [first]
-    for many in range(1, most + 1):
-        beyond = []
-        for at, places in edge:
-            for place in (at - 1, at + 1):
-                stand = (place, tuple(run_of(plays, at, list(places), [place])[0]))
-                if stand not in steps:
-                    steps[stand] = many
-                    beyond.append(stand)
-        edge = beyond
-    return steps
 
 
 def drawn_errands(many):

@@ -31,6 +31,10 @@ join keys ljust lower lstrip partition pop remove replace reverse rfind rjust rp
 split splitlines startswith strip update upper values zfill bit_length
 """.split()
 
+# Of these what is told is walked on the spot, or made a thing that is kept.
+WALKED = ["zip", "enumerate", "reversed", "range", "items", "keys", "values"]
+WALKERS = ["list", "tuple", "dict", "sorted", "sum", "any", "all", "enumerate", "zip", "min", "max"]
+
 DUNDERS = ["__init__", "__eq__", "__repr__", "__str__", "__len__", "__all__", "__version__"]
 
 
@@ -51,6 +55,13 @@ def values_of_objects():
 def drawn_from(file):
     """The package's modules that the file draws from, by their plain names."""
     return [node.module.split(".")[1] for node in tree_of(file).body if isinstance(node, ast.ImportFrom)]
+
+
+def name_of_call(node):
+    """The name by which something is called, plainly or as a method; empty where it is no call."""
+    if not isinstance(node, ast.Call):
+        return ""
+    return node.func.attr if isinstance(node.func, ast.Attribute) else node.func.id
 
 
 def nodes_of(kind):
@@ -153,6 +164,42 @@ class Form(unittest.TestCase):
             for thing in node.body:
                 fits = isinstance(thing, ast.FunctionDef) or thing is node.body[0] and isinstance(thing, ast.Expr)
                 self.assertTrue(fits, (name, node.name, thing.lineno))
+
+    def test_names_within_a_def_are_not_those_of_a_class_or_an_import(self):
+        for file in FILES:
+            body = tree_of(file).body
+            taken = {node.name for node in body if isinstance(node, ast.ClassDef)}
+            taken |= {drawn.name for node in body if isinstance(node, ast.ImportFrom) for drawn in node.names}
+            for node in ast.walk(tree_of(file)):
+                if isinstance(node, ast.Name) and isinstance(node.ctx, ast.Store):
+                    self.assertNotIn(node.id, taken, (file, node.lineno))
+                if isinstance(node, ast.arg):
+                    self.assertNotIn(node.arg, taken, (file, node.lineno))
+
+    def test_walked_at_once(self):
+        for file in FILES:
+            tree = tree_of(file)
+            fits = [node.iter for node in ast.walk(tree) if isinstance(node, (ast.For, ast.comprehension))]
+            fits += [node.args[0] for node in ast.walk(tree) if name_of_call(node) in WALKERS and node.args]
+            for node in ast.walk(tree):
+                if name_of_call(node) in WALKED:
+                    self.assertIn(node, fits, (file, node.lineno))
+
+    def test_stars_keywords_and_texts_in_braces(self):
+        for name, node in nodes_of(ast.Starred):
+            self.assertIsInstance(node.ctx, ast.Store, (name, node.lineno))
+        for name, node in nodes_of(ast.arguments):
+            self.assertFalse(node.vararg or node.kwarg or node.posonlyargs, name)
+        for name, node in nodes_of(ast.Call):
+            self.assertEqual(node.keywords, [], (name, node.lineno))
+        for name, node in nodes_of(ast.FormattedValue):
+            self.assertIsNone(node.format_spec, (name, node.lineno))
+
+    def test_errors_are_made_on_the_spot(self):
+        kinds = [kind.name for name, kind in nodes_of(ast.ClassDef) if name == "errors.py"]
+        for name, node in nodes_of(ast.Raise):
+            self.assertIn(name_of_call(node.exc), kinds, (name, node.lineno))
+        self.assertEqual(nodes_of(ast.Try), [])
 
     def test_is_stands_beside_none_true_and_false_alone(self):
         for name, node in nodes_of(ast.Compare):

@@ -73,7 +73,8 @@ class Grabbed(unittest.TestCase):
 
 class Rows(unittest.TestCase):
     def test_the_stands_behind_each(self):
-        self.assertEqual(grabs_of([3, 2], 0, [0, 0], [(1, 9), (-1, 0), (0, 0)]), [(4, [7, 9]), (0, [3, 5]), (0, [0, 2])])
+        self.assertEqual(grabs_of([3, 2], 0, [0, 0], [(1, 9), (-1, 0), (0, 0)]),
+                         [(4, [7, 9]), (0, [3, 5]), (0, [0, 2])])
         self.assertEqual(grabs_of([3, 2], 5, [4, 4], []), [])
         self.assertEqual(grabs_of([3, 2], 0, [0, 0], [(1, 9)]), [(4, [7, 9])])
 

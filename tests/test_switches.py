@@ -74,7 +74,8 @@ class Switches(unittest.TestCase):
                 self.assertIs(switch.on(), plain_on(low, high, row), (low, high, row))
 
     def test_no_switch(self):
-        for low, high in ((-1, 1), (-1, -1), (-2, -1), (-SIXTY, SIXTY), (0, 0), (1, 0), (5, 5), (5, 4), (5, -5), (0, -1)):
+        for low, high in ((-1, 1), (-1, -1), (-2, -1), (-SIXTY, SIXTY), (0, 0), (1, 0), (5, 5), (5, 4), (5, -5),
+                          (0, -1)):
             self.assertIs(refusal_of(Switch, low, high), NoSwitch, (low, high))
         for low, high in ((0, 1), (0, 17), (16, 17), (0, SIXTY), (SIXTY - 1, SIXTY)):
             self.assertIsNone(refusal_of(Switch, low, high), (low, high))
